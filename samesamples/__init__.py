@@ -1,0 +1,1 @@
+"""Samesamples: a studio's sound engine."""

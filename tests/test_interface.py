@@ -1,0 +1,40 @@
+"""The interface: what is imported from which file, and by which parameters it is called."""
+
+import importlib
+import inspect
+
+from helpers import Case
+
+INTERFACE = {
+    "kinds": {
+        "is_integer": "thing", "is_number": "thing", "is_name": "thing", "is_worth": "thing", "is_sound": "thing",
+        "is_quotient": "thing", "is_mode": "thing", "is_text": "thing",
+    },
+    "wholes": {"clip": "value", "turned": "value many mode"},
+    "quotients": {
+        "quotient_of": "top bottom", "plus": "one other", "minus": "one other", "times": "one other",
+        "over": "one other", "less": "one other", "floor_of": "quotient",
+    },
+    "draws": {"draw": "value", "drawn": "value peak", "leap_draw": "value many"},
+    "curves": {"is_points": "thing", "curve_at": "points pos"},
+    "tempos": {"is_tempo": "thing", "time_of": "tempo beat", "beat_of": "tempo time", "sample_of": "tempo beat"},
+    "tunings": {"is_tuning": "thing", "ratio_at": "tuning key", "pitch_of": "tuning key"},
+    "values": {"is_value": "thing"},
+    "datatexts": {"text_of": "value"},
+    "datareadings": {"value_of": "text"},
+}
+
+
+class Interface(Case):
+    def test_each_function(self):
+        for file, functions in INTERFACE.items():
+            module = importlib.import_module("samesamples." + file)
+            for name, told in functions.items():
+                function = getattr(module, name)
+                self.assertTrue(inspect.isfunction(function), name)
+                self.assertEqual(function.__module__, "samesamples." + file)
+                parameters = inspect.signature(function).parameters
+                self.assertEqual(list(parameters), told.split(), name)
+                for parameter in parameters.values():
+                    self.assertEqual(parameter.kind, parameter.POSITIONAL_OR_KEYWORD)
+                    self.assertIs(parameter.default, parameter.empty)
