@@ -240,7 +240,7 @@ class Rules(unittest.TestCase):
     def test_l7_expressions(self):
         for where, node in self.each(ast.Constant):
             self.assertNotIsInstance(node.value, (float, complex, bytes), where)
-        for where, node in self.each((ast.Div, ast.MatMult, ast.Await, ast.Set, ast.SetComp, ast.NamedExpr)):
+        for where, node in self.each((ast.Div, ast.MatMult, ast.Await, ast.Set, ast.NamedExpr)):
             self.fail(where)
         for where, node in self.each(ast.GeneratorExp):
             self.assertIn(where, {place for place, call in self.each(ast.Call) if node in call.args}, where)
@@ -347,6 +347,15 @@ class Rules(unittest.TestCase):
         for where, node in self.each(ast.Return):
             if isinstance(node.value, ast.Call) and isinstance(node.value.func, ast.Name):
                 self.assertNotIn(node.value.func.id, ("zip", "enumerate", "reversed", "range", "map"), where)
+
+    def test_l24_sets_are_only_measured_and_sorted(self):
+        measured = []
+        for _, node in self.each(ast.Call):
+            if isinstance(node.func, ast.Name) and node.func.id in ("len", "sorted") and not node.keywords:
+                measured += [id(one) for one in node.args]
+        for where, node in self.each((ast.SetComp, ast.Call)):
+            if isinstance(node, ast.SetComp) or isinstance(node.func, ast.Name) and node.func.id == "set":
+                self.assertIn(id(node), measured, where)
 
     def test_l27_numbers_and_strings(self):
         for name, tree in TREES.items():
