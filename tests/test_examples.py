@@ -1,17 +1,30 @@
 """The examples of the document."""
 
+from samesamples.boxkinds import inlets_of, kind_names, shape_of
 from samesamples.curves import curve_at
 from samesamples.datareadings import value_of
 from samesamples.datatexts import text_of
 from samesamples.draws import draw, drawn, leap_draw
 from samesamples.errors import BadText
 from samesamples.kinds import is_name, is_number, is_quotient, is_sound
+from samesamples.knobkinds import is_knobs, is_settled
+from samesamples.leaps import leap_of
+from samesamples.lengths import items_count, items_length
 from samesamples.quotients import floor_of, minus, over, quotient_of
+from samesamples.scorekinds import is_score
+from samesamples.scorenotes import notes_of
+from samesamples.scorereadings import read_score
+from samesamples.scoretexts import show_score
+from samesamples.states import is_state, start_of
+from samesamples.steps import block_of, one_step
 from samesamples.tempos import beat_of, sample_of, time_of
 from samesamples.tunings import pitch_of, ratio_at
 from samesamples.values import is_value
+from samesamples.walking import walk_of
 from samesamples.wholes import turned
+from samesamples.windows import ahead_of, window_of
 from helpers import Case
+from scores import PART, SONG
 
 
 class Numbers(Case):
@@ -52,3 +65,52 @@ class Values(Case):
         self.same(text_of((None, True, -5, "a\nb", ())), "(nti-5;sa|b;())")
         self.same(value_of("(i0;(s;))"), (0, ("",)))
         self.raises(BadText, (0,), value_of, "i-0;")
+
+
+class Scores(Case):
+    def test_scores(self):
+        self.same(is_score(SONG), True)
+        self.same((items_length(SONG, PART), items_count(SONG, PART)), ((5, 2), 4))
+
+    def test_walks(self):
+        self.same(walk_of(SONG, 0)[2:], (((3, 2), (1, 2), 2, 1024), ((2, 1), (1, 2), 0, 4096)))
+        told = window_of(SONG, 0, (3, 2), (2, 1)), ahead_of(SONG, 0, (2, 1))
+        self.same(told, ((((3, 2), (1, 2), 2, 1024),), 3))
+
+    def test_notes(self):
+        self.same(notes_of(SONG), ((0, 2, 4096, 4096), (2, 1, 8192, 1024), (3, 2, 8192, 1024), (5, 1, 4096, 4096)))
+
+    def test_texts(self):
+        text = ("score s\ntempo 0 5/2\ntempo 2 3\ntuning 4096 3/2 2\nphrase a : !1024 1.1/2\n"
+                "voice v : 0.1 ( @a+1 )x2 [1/2 0.1 ]\nend\n")
+        self.same(show_score("s", SONG), text)
+        self.same(read_score(text), ("s", SONG))
+        self.raises(BadText, (1,), read_score, "score s\n")
+
+
+class Boxes(Case):
+    def test_kinds(self):
+        told = kind_names()[:3], inlets_of("mix", ((4096, 5), 0)), shape_of("wave", ((0, 9), 1, 8))
+        self.same(told, (("clock", "cross", "curve"), 2, (2, 8)))
+        told = is_knobs("press", (9, 2, 1, 0, 0)), is_knobs("latch", ()), is_settled("voices", ((), 1, "never", (0,), 1, 1))
+        self.same(told, (False, True, True))
+
+    def test_states(self):
+        self.same((start_of("taps", ((1, 2, 3),)), is_state("taps", ((1, 2, 3),), (0, 0, 0))), ((0, 0), False))
+
+    def test_steps(self):
+        told = one_step("smooth", (2048, "near"), 0, (5,)), block_of("clock", (0, 0, 3), 0, (), 5)
+        self.same(told, ((3, 3), (2, (0, 1, 2, 0, 1))))
+        told = block_of("voices", (((0, 2, 4096, 4096),), 1, "never", (0, 100), 1, 1), (), ((0, 1, 2),), 3)
+        self.same(told, ((), (0, 100, 0)))
+
+    def test_leaps(self):
+        self.same(leap_of("clock", (0, 0, 3), 0, 10 ** 30), 1)
+
+    def test_duo_without_changes(self):
+        # The clock of the document's duo, and the mix that adds to it what it told itself one sample earlier.
+        clock = block_of("clock", (0, 0, 3), 0, (), 5)[1]
+        told = [0]
+        for worth in clock:
+            told.append(one_step("mix", ((4096, 4096), 0), 0, (worth, told[-1]))[1])
+        self.same((clock, tuple(told[1:])), ((0, 1, 2, 0, 1), (0, 1, 3, 3, 4)))

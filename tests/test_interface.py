@@ -22,6 +22,18 @@ INTERFACE = {
     "values": {"is_value": "thing"},
     "datatexts": {"text_of": "value"},
     "datareadings": {"value_of": "text"},
+    "scorekinds": {"is_items": "thing", "is_score": "thing"},
+    "lengths": {"items_length": "score items", "items_count": "score items"},
+    "walking": {"walk_of": "score voice"},
+    "windows": {"window_of": "score voice low high", "ahead_of": "score voice beat"},
+    "scorenotes": {"notes_of": "score", "has_notes": "score"},
+    "scoretexts": {"show_score": "name score"},
+    "scorereadings": {"read_score": "text"},
+    "boxkinds": {"kind_names": "", "is_kind": "thing", "inlets_of": "kind knobs", "shape_of": "kind knobs"},
+    "knobkinds": {"is_knobs": "kind thing", "is_settled": "kind thing"},
+    "states": {"start_of": "kind knobs", "is_state": "kind knobs thing"},
+    "steps": {"one_step": "kind knobs state worths", "block_of": "kind knobs state columns many"},
+    "leaps": {"leap_of": "kind knobs state many"},
 }
 
 
