@@ -71,7 +71,7 @@ def _are_items(thing, depth):
 
 
 def _is_item(thing, depth):
-    if not isinstance(thing, tuple) or len(thing) not in (2, 3) or not isinstance(thing[0], str):
+    if not isinstance(thing, tuple) or len(thing) not in (2, 3):
         return False
     if len(thing) == 2:
         return _is_pair(thing[0], thing[1])

@@ -20,9 +20,7 @@ def quotient_written(word):
     if stroke == "":
         return None if top is None else (top, 1)
     bottom = integer_written(second)
-    if top is None or bottom is None or bottom == 1 or not is_quotient((top, bottom)):
-        return None
-    return top, bottom
+    return (top, bottom) if bottom != 1 and is_quotient((top, bottom)) else None
 
 
 def quotient_word(quotient):

@@ -57,6 +57,7 @@ class Items(Case):
         self.each([], [
             (), ("note",), ("note", 0), ("note", 0, (1, 1), 0), ("rest",), ("rest", 0, (1, 1)), ("loud", 1, 1), ("call", "a"),
             ("times", 1), ("by", (1, 1)), ["note", 0, (1, 1)], ("notes", 0, (1, 1)), ("", 0), (None, 1), ("by", (1, 1), (), ()),
+            ("bye", (1, 1), ()), ("play", "a", 0), ("repeat", 2, ()), ("quiet", 5), ("pause", (1, 1)), ("Note", 0, (1, 1)),
             (["note"], 0, (1, 1)), "note", 0, None, ("rest", 0), ("times", (), 1), ("note", (1, 1), 0), (("note",), (1, 1)),
         ])
 

@@ -163,6 +163,9 @@ class Windows(Case):
         self.raises(TooMany, (2001,), window_of, score, 0, (0, 1), (2001, 1))
         self.same(len(window_of(score, 0, (0, 1), (2000, 1))), 2000)
         self.same(len(window_of(score, 0, (1, 2), (2001, 1))), 2000)
+        score = song((("times", MANY, (NOTE,)),))
+        self.raises(TooMany, (2500,), window_of, score, 0, (700, 1), (3200, 1))
+        self.same(len(window_of(score, 0, (700, 1), (2700, 1))), 2000)
 
 
 class Consequences(Case):
