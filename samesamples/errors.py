@@ -54,8 +54,8 @@ class KeyAway(UseError):
 class TooMany(UseError):
     """So many of something that it is refused."""
 
-    def __init__(self, count):
-        self.count = count
+    def __init__(self, many):
+        self.many = many
 
 
 class NotLet(DeedError):

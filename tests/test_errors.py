@@ -5,7 +5,7 @@ from helpers import Case
 
 FIELDS = {
     "PaperError": {"InvalidPaper": ("word", "at")},
-    "UseError": {"NotUsable": ("word", "at"), "BadText": ("row",), "KeyAway": ("key",), "TooMany": ("count",)},
+    "UseError": {"NotUsable": ("word", "at"), "BadText": ("row",), "KeyAway": ("key",), "TooMany": ("many",)},
     "DeedError": {"NotLet": ("reason", "name")},
     "EngineError": {
         "HandBusy": ("hand",), "NoName": ("name",), "NameTaken": ("name",), "NotReady": ("sample", "inlet"),
