@@ -41,6 +41,16 @@ def inlets_of(kind, knobs):
 def shape_of(kind, knobs):
     """The shape that kind and knobs give: by it the states go on from one box to another."""
     demand(_are_knobs(kind, knobs), "knobs")
+    return shape_by(kind, knobs)
+
+
+def inlets_by(kind, knobs):
+    """As inlets_of, for knobs that have been looked at."""
+    return len(knobs[0]) if kind == "mix" else _INLETS.get(kind, 0)
+
+
+def shape_by(kind, knobs):
+    """As shape_of, for knobs that have been looked at."""
     if kind == "wave":
         return len(knobs[0]), knobs[2]
     if kind == "voices":
@@ -50,11 +60,6 @@ def shape_of(kind, knobs):
     if kind in ("peak", "mean"):
         return knobs[0]
     return knobs[2] if kind == "reel" else 0
-
-
-def inlets_by(kind, knobs):
-    """As inlets_of, for knobs that have been looked at."""
-    return len(knobs[0]) if kind == "mix" else _INLETS.get(kind, 0)
 
 
 def _are_knobs(kind, knobs):

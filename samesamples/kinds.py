@@ -5,6 +5,7 @@ from math import gcd
 TOP = 1048575
 ONE = 4096
 LAST = 20000
+CHANNELS = 4
 
 _LETTERS = "abcdefghijklmnopqrstuvwxyz"
 _FIGURES = "0123456789"
@@ -55,6 +56,21 @@ def is_quotient(thing):
     return is_integer(top) and is_integer(bottom) and bottom >= 1 and gcd(top, bottom) == 1
 
 
+def is_sample(thing):
+    """Whether thing is a number below LAST."""
+    return is_within(thing, 0, LAST - 1)
+
+
+def is_goal(thing):
+    """Whether thing is a number not above LAST."""
+    return is_within(thing, 0, LAST)
+
+
+def is_given(thing):
+    """Whether thing is a quadruple of sounds, one for each channel."""
+    return isinstance(thing, tuple) and len(thing) == CHANNELS and all(is_sound(sound) for sound in thing)
+
+
 def is_mode(thing):
     """Whether thing is the word of a mode of dividing."""
     return isinstance(thing, str) and thing in ("down", "near", "zero")
@@ -63,6 +79,13 @@ def is_mode(thing):
 def is_text(thing):
     """Whether thing is a string of plain characters and newlines, without the percent sign."""
     return isinstance(thing, str) and all(_is_plain(sign) or sign == "\n" for sign in thing)
+
+
+def alike(one, other):
+    """Whether both are equal and of the same kinds throughout: True is not 1."""
+    if isinstance(one, tuple) and isinstance(other, tuple):
+        return len(one) == len(other) and all([alike(item, its) for item, its in zip(one, other)])
+    return is_integer(one) == is_integer(other) and one == other
 
 
 def _is_plain(sign):

@@ -8,6 +8,11 @@ from samesamples.knobkinds import is_pitch, is_settled, is_share
 def start_of(kind, knobs):
     """The state of a settled box at the start."""
     demand(is_settled(kind, knobs), "knobs")
+    return start_by(kind, knobs)
+
+
+def start_by(kind, knobs):
+    """As start_of, for knobs that have been looked at."""
     if kind in ("clock", "noise"):
         return knobs[0]
     if kind == "voices":

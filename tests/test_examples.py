@@ -1,20 +1,28 @@
 """The examples of the document."""
 
 from samesamples.boxkinds import inlets_of, kind_names, shape_of
+from samesamples.buffers import greatest_buffer
 from samesamples.curves import curve_at
 from samesamples.datareadings import value_of
 from samesamples.datatexts import text_of
+from samesamples.deedkinds import is_deed
 from samesamples.draws import draw, drawn, leap_draw
 from samesamples.errors import BadText
 from samesamples.kinds import is_name, is_number, is_quotient, is_sound
 from samesamples.knobkinds import is_knobs, is_settled
 from samesamples.leaps import leap_of
 from samesamples.lengths import items_count, items_length
+from samesamples.orders import order_of
+from samesamples.partings import parting_of
+from samesamples.projectkinds import is_box, reason_against
+from samesamples.projects import beside, life_of, names_of, order_in, wires_of
 from samesamples.quotients import floor_of, minus, over, quotient_of
+from samesamples.ringsums import height_ways, ring_sum
 from samesamples.scorekinds import is_score
 from samesamples.scorenotes import notes_of
 from samesamples.scorereadings import read_score
 from samesamples.scoretexts import show_score
+from samesamples.slacks import least_slack
 from samesamples.states import is_state, start_of
 from samesamples.steps import block_of, one_step
 from samesamples.tempos import beat_of, sample_of, time_of
@@ -24,6 +32,7 @@ from samesamples.walking import walk_of
 from samesamples.wholes import turned
 from samesamples.windows import ahead_of, window_of
 from helpers import Case
+from projects import DUO
 from scores import PART, SONG
 
 
@@ -114,3 +123,35 @@ class Boxes(Case):
         for worth in clock:
             told.append(one_step("mix", ((4096, 4096), 0), 0, (worth, told[-1]))[1])
         self.same((clock, tuple(told[1:])), ((0, 1, 2, 0, 1), (0, 1, 3, 3, 4)))
+
+
+class Rings(Case):
+    def test_heights(self):
+        arrows = (("a", "b", 2), ("b", "a", -1), ("c", "c", -1))
+        self.same(ring_sum(("a", "b", "c"), arrows, (0, 5, None)), ("heights", (0, 2, None)))
+        self.same(height_ways(("a", "b", "c"), arrows, (0, 5, None)), ("ways", ((), (0,), None)))
+
+    def test_orders(self):
+        wires = (("c", "a", 0), ("a", "b", 0), ("b", "a", 1))
+        self.same(order_of(("a", "b", "c"), wires), ("order", ("c", "a", "b")))
+        self.same(parting_of(("a",), (("a", "a", 2), ("a", "a", 0))), ((1,), (((0, 4096), 0),), (((0, -4096), 1),)))
+        wires = (("b", "a", 1), ("a", "a", 4), ("b", "b", 6))
+        self.same(greatest_buffer(("a", "b"), wires), (4, ("b", "a"), (1,)))
+
+    def test_slack(self):
+        self.same(least_slack(("a", "b"), (("a", "b", 3, 1), ("b", "a", -1, 2)))[2:], ((0, 1), 2))
+
+
+class Projects(Case):
+    def test_kinds(self):
+        self.same(is_box(("clock", 0, (0, 0, 3), (None,))), False)
+        self.same(reason_against(((("b", ("mix", 0, ((4096,), 0), (("b", 0),))),), ())), ("ring", "b"))
+
+    def test_projects(self):
+        self.same(wires_of(DUO), (("a", "b", 0), ("b", "b", 1)))
+        self.same(life_of(DUO, "b"), ("mix", 0, 0))
+        self.same(order_in(DUO), ("a", "b"))
+        self.same(names_of(beside(DUO, ((("aa", ("level", 0, (5,), ())),), ()))), ("a", "aa", "b"))
+
+    def test_deeds(self):
+        self.same((is_deed(("put", "c", "level", (5,), (None,))), is_deed(("loose", "c", 99))), (False, True))

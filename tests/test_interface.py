@@ -34,6 +34,29 @@ INTERFACE = {
     "states": {"start_of": "kind knobs", "is_state": "kind knobs thing"},
     "steps": {"one_step": "kind knobs state worths", "block_of": "kind knobs state columns many"},
     "leaps": {"leap_of": "kind knobs state many"},
+    "ringkinds": {"are_names": "thing", "are_arrows": "names thing", "are_wires": "names thing", "is_roof": "names thing"},
+    "ringsums": {
+        "ring_sum": "names arrows roof", "height_ways": "names arrows roof", "least_ways": "names wires name",
+    },
+    "ringcheckers": {
+        "lets_heights": "names arrows roof thing", "lets_ring": "names arrows roof thing",
+        "lets_ways": "names arrows roof thing",
+    },
+    "orders": {"order_of": "names wires", "wires_round": "names wires most"},
+    "partings": {"parting_of": "names wires", "is_parted": "names wires thing"},
+    "buffers": {"greatest_buffer": "names wires"},
+    "buffercheckers": {"lets_buffer": "names wires thing"},
+    "slacks": {"are_weighted": "names thing", "least_slack": "names arrows"},
+    "slackcheckers": {"lets_slack": "names arrows thing"},
+    "projectkinds": {
+        "is_box": "thing", "is_project": "thing", "is_fresh": "project", "freshened": "project",
+        "reason_against": "project",
+    },
+    "projects": {
+        "empty_project": "", "box_of": "project name", "names_of": "project", "wires_of": "project",
+        "life_of": "project name", "settled_of": "project", "order_in": "project", "beside": "project other",
+    },
+    "deedkinds": {"is_deed": "thing"},
 }
 
 
