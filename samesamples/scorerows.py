@@ -1,11 +1,24 @@
 """The rows of a score's text, taken one after another as far as a score can have them."""
 
+from samesamples.errors import BadText
 from samesamples.itemreadings import items_written
 from samesamples.kinds import is_name
 from samesamples.scorekinds import are_phrases, are_voices
 from samesamples.tempos import is_tempo
 from samesamples.tunings import is_tuning
 from samesamples.writtens import integer_written, quotient_written
+
+
+def take_all(taken, text):
+    """Let taken take all rows of the text; tells how many there are."""
+    rows = text.split("\n")
+    for at, row in enumerate(rows[:-1]):
+        if not taken.take(row):
+            raise BadText(at)
+    # Behind the last newline stands nothing, or one row that no text can have.
+    if rows[-1] != "" or not taken.ended:
+        raise BadText(len(rows) - 1)
+    return len(rows) - 1
 
 
 class ScoreRows:

@@ -93,9 +93,9 @@ def plain_reason(one, has_notes):
     return None
 
 
-def let_project(source, has_notes, **told):
-    """A drawn project against which there is no reason, fresh."""
+def let_project(source, has_notes, least=0, **told):
+    """A drawn project of at least so many boxes, against which there is no reason, fresh."""
     while True:
         boxes, scores = drawn_project(source, **told)
-        if plain_reason((boxes, scores), has_notes) is None:
+        if len(boxes) >= least and plain_reason((boxes, scores), has_notes) is None:
             return tuple((name, (kind, 0, knobs, wires)) for name, (kind, _, knobs, wires) in boxes), scores

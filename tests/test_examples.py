@@ -2,12 +2,19 @@
 
 from samesamples.boxkinds import inlets_of, kind_names, shape_of
 from samesamples.buffers import greatest_buffer
+from samesamples.cones import cone_of, seeds_of
+from samesamples.conestretches import cone_by_segments
 from samesamples.curves import curve_at
 from samesamples.datareadings import value_of
 from samesamples.datatexts import text_of
 from samesamples.deedkinds import is_deed
+from samesamples.deeds import done
 from samesamples.draws import draw, drawn, leap_draw
-from samesamples.errors import BadText
+from samesamples.errors import BadText, NotLet
+from samesamples.fitting import is_run
+from samesamples.freeruns import free_runs
+from samesamples.hangings import hangs_on, touched_by
+from samesamples.histories import sleeping, standing
 from samesamples.kinds import is_name, is_number, is_quotient, is_sound
 from samesamples.knobkinds import is_knobs, is_settled
 from samesamples.leaps import leap_of
@@ -15,16 +22,21 @@ from samesamples.lengths import items_count, items_length
 from samesamples.orders import order_of
 from samesamples.partings import parting_of
 from samesamples.projectkinds import is_box, reason_against
+from samesamples.projectreadings import read_project
 from samesamples.projects import beside, life_of, names_of, order_in, wires_of
+from samesamples.projecttexts import show_project
 from samesamples.quotients import floor_of, minus, over, quotient_of
 from samesamples.ringsums import height_ways, ring_sum
+from samesamples.runs import run_of
 from samesamples.scorekinds import is_score
 from samesamples.scorenotes import notes_of
 from samesamples.scorereadings import read_score
 from samesamples.scoretexts import show_score
+from samesamples.segments import seams_of, segments_of
 from samesamples.slacks import least_slack
 from samesamples.states import is_state, start_of
 from samesamples.steps import block_of, one_step
+from samesamples.sures import sure_until
 from samesamples.tempos import beat_of, sample_of, time_of
 from samesamples.tunings import pitch_of, ratio_at
 from samesamples.values import is_value
@@ -32,7 +44,7 @@ from samesamples.walking import walk_of
 from samesamples.wholes import turned
 from samesamples.windows import ahead_of, window_of
 from helpers import Case
-from projects import DUO
+from projects import DUO, ECHO, FED, MUTE
 from scores import PART, SONG
 
 
@@ -155,3 +167,45 @@ class Projects(Case):
 
     def test_deeds(self):
         self.same((is_deed(("put", "c", "level", (5,), (None,))), is_deed(("loose", "c", 99))), (False, True))
+
+        self.same(done(((("c", ("level", 0, (9,), ())),), ()), ("anew", "c"), 4), ((("c", ("level", 5, (9,), ())),), ()))
+        self.raises(NotLet, ("source", "b"), done, DUO, ("off", "a"), 0)
+
+    def test_texts(self):
+        text = "project duo\nbox a clock 0 (i0;i0;i3;)\nbox b mix 0 ((i4096;i4096;)i0;)\nwire b 0 a 0\nwire b 1 b 1\nend\n"
+        self.same(show_project("duo", DUO), text)
+        self.same(read_project("project p\nbox a level 0 (i5;)\nend\n"), ("p", ((("a", ("level", 0, (5,), ())),), ())))
+        self.raises(BadText, (4,), read_project, "project p\nbox a mix 0 ((i1;)i0;)\nwire a 0 b 0\nend\n")
+
+
+class Histories(Case):
+    def test_standings(self):
+        self.same((standing(DUO, ECHO, 1) == DUO, standing(DUO, ECHO, 2) == DUO), (True, False))
+        entries = ((3, 7, ("off", "a")),)
+        self.same((sleeping(DUO, entries, 6), sleeping(DUO, entries, 7)), ((0,), ()))
+
+    def test_segments(self):
+        self.same(seams_of(((2, None, ("off", "a")), (0, 7, ("off", "b")))), (2, 7))
+        told = segments_of(((), ()), ((3, 5, ("off", "a")),))
+        self.same(told, ((0, 3, ((), ())), (3, 5, ((), ())), (5, None, ((), ()))))
+
+    def test_runs(self):
+        self.same(run_of(DUO, ECHO, MUTE, 5)[1], ((0, 1, 2, 0, 1), (0, 1, 2, 4, 4)))
+        self.same(run_of(DUO, (), MUTE, 5)[1], ((0, 1, 2, 0, 1), (0, 1, 3, 3, 4)))
+        plain = run_of(DUO, (), MUTE, 3)
+        self.same((is_run(DUO, (), MUTE, plain), is_run(DUO, ECHO, MUTE, plain)), (True, False))
+
+    def test_cones(self):
+        told = seeds_of(DUO, (), ECHO, 4), cone_of(DUO, (), ECHO, 5)
+        self.same(told, ((("b", 2), ("b", 3)), (("b", ((2, 5),)),)))
+        anew = ((1, None, ("anew", "a")),)
+        told = seeds_of(DUO, (), ((0, None, ("anew", "a")),), 9), cone_of(DUO, (), anew, 4)
+        self.same(told, ((), (("a", ((1, 4),)), ("b", ((1, 4),)))))
+        self.same(cone_by_segments(DUO, (), anew, 4), told[1])
+        one, other = free_runs(DUO, (), ECHO, 3)
+        self.same((one[0] == other[0], one[1][1][:2] == other[1][1][:2], one[1][1][2] == other[1][1][2]), (True, True, False))
+
+    def test_what_hangs_on_what(self):
+        self.same(hangs_on(DUO, (), "b", 1), (("a", 0), ("a", 1), ("b", 0), ("b", 1)))
+        self.same(touched_by(DUO, ECHO, "b", 1, 4), (("b", 1), ("b", 2), ("b", 3)))
+        self.same(sure_until(FED, (), (0, 3, 0, 0), 9), (("f", 3), ("g", 5)))

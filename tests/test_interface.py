@@ -57,6 +57,20 @@ INTERFACE = {
         "life_of": "project name", "settled_of": "project", "order_in": "project", "beside": "project other",
     },
     "deedkinds": {"is_deed": "thing"},
+    "deeds": {"done": "project deed number"},
+    "projecttexts": {"show_project": "name project"},
+    "projectreadings": {"read_project": "text"},
+    "histories": {
+        "is_entries": "thing", "standing": "project entries sample", "sleeping": "project entries sample",
+    },
+    "segments": {"seams_of": "entries", "segments_of": "project entries"},
+    "runs": {"run_of": "project entries given goal"},
+    "fitting": {"is_run": "project entries given thing"},
+    "cones": {"seeds_of": "project one other goal", "cone_of": "project one other goal"},
+    "conestretches": {"cone_by_segments": "project one other goal"},
+    "freeruns": {"free_runs": "project one other goal"},
+    "hangings": {"hangs_on": "project entries name sample", "touched_by": "project entries name sample goal"},
+    "sures": {"sure_until": "project entries amounts goal"},
 }
 
 
