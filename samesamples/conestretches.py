@@ -25,34 +25,28 @@ def cone_between(one, other, goal):
 class Cone:
     """By name the stretches that are known so far, each an ascending list of pairs (low, high).
 
-    Ones and others are where the name stands in each history, lone where it stands in just one, touched where it is
-    touched, and heard where it is touched and stands in one.
+    Ones and others are where the name stands in each history, touched where it is touched.
     """
 
     def __init__(self):
         self.ones = {}
         self.others = {}
-        self.lone = {}
         self.touched = {}
-        self.heard = {}
 
     def go_on(self, one, other, low, high):
         """Take in a segment of each history, between two seams of either."""
         names = names_of_all([one, other])
-        for name in names:
-            _put_stretch(self.ones, name, low, high, name in one.boxes)
-            _put_stretch(self.others, name, low, high, name in other.boxes)
-            _put_stretch(self.lone, name, low, high, name not in one.boxes or name not in other.boxes)
+        for name in one.order:
+            _put_stretch(self.ones, name, low, high)
+        for name in other.order:
+            _put_stretch(self.others, name, low, high)
         firsts = [self.first_for_itself(one, other, name, low) for name in names]
-        firsts = [None if first is None or first >= high else first for first in firsts]
         # Within a segment a touched name stays touched, and touches what reads it as late as the wires' delays say.
         wires = [(wire[0], name, wire[1]) for name in one.order for wire in one.wires_to(name) if wire is not None]
         heights, _, _ = fallen(names, wires, firsts)
         for name in names:
-            first = heights[name]
-            if first is not None and first < high:
-                _put_stretch(self.touched, name, first, high, True)
-                _put_stretch(self.heard, name, first, high, name in one.boxes)
+            if heights[name] is not None and heights[name] < high:
+                _put_stretch(self.touched, name, heights[name], high)
 
     def first_for_itself(self, one, other, name, low):
         """The first sample from low on at which the name is touched but for what the segment's others hand on."""
@@ -63,7 +57,8 @@ class Cone:
         found = []
         for wire, its in zip(one.wires_to(name), other.wires_to(name)):
             if wire == its:
-                found += [_first_read(self.lone, wire, low), _first_read(self.heard, wire, low)]
+                # Where a touched source stands in one alone, the inlets read unlike things.
+                found.append(_first_read(self.touched, wire, low))
             else:
                 found += [_first_read(self.ones, wire, low), _first_read(self.others, its, low)]
         return min([first for first in found if first is not None], default=None)
@@ -85,10 +80,8 @@ def _first_in(stretches, name, low):
     return None
 
 
-def _put_stretch(stretches, name, low, high, holds):
-    """Put a stretch behind the others of the name, if it holds; stretches that touch are made one."""
-    if not holds:
-        return
+def _put_stretch(stretches, name, low, high):
+    """Put a stretch behind the others of the name; stretches that touch are made one."""
     rows = stretches.setdefault(name, [])
     if rows and rows[-1][1] == low:
         rows[-1] = (rows[-1][0], high)

@@ -11,7 +11,7 @@ _MOST_DEEDS = 24
 
 def is_deed(thing):
     """Whether thing is a deed, whether or not it can be done."""
-    if isinstance(thing, tuple) and len(thing) == 2 and isinstance(thing[0], str) and thing[0] == "all":
+    if isinstance(thing, tuple) and len(thing) == 2 and thing[0] == "all":
         return isinstance(thing[1], tuple) and len(thing[1]) <= _MOST_DEEDS and all(_is_plain(one) for one in thing[1])
     return _is_plain(thing)
 

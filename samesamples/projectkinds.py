@@ -4,7 +4,7 @@ from samesamples.boxkinds import inlets_by
 from samesamples.kinds import is_name, is_number, is_within
 from samesamples.knobkinds import is_knobs
 from samesamples.notebooks import NoteBook
-from samesamples.rings import order_up_to, ring_up_to
+from samesamples.rings import ring_up_to
 from samesamples.scorekinds import is_score
 
 MOST_BOXES = 24
@@ -102,9 +102,8 @@ def wires_in(project):
 
 def _least_on_ring(names, wires):
     """The least name that wires of delay 0 lead from round to itself."""
-    taken = {name: True for name in order_up_to(names, wires, 0)}
     short = [(source, name) for source, name, delay in wires if delay == 0]
-    return min([name for name in names if name not in taken and name in _behind(short, name)])
+    return min([name for name in names if name in _behind(short, name)])
 
 
 def _behind(short, name):

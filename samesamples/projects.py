@@ -31,7 +31,6 @@ def wires_of(project):
 
 def life_of(project, name):
     """The triple (kind, mark, shape) of the box; None if the name does not stand."""
-    demand(is_name(name), "name")
     box = box_of(project, name)
     return None if box is None else life_by(box)
 

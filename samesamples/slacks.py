@@ -47,9 +47,10 @@ def _least_flow(names, arrows):
     flow = [0 for _ in arrows]
     while any([lacks[name] > 0 for name in names]):
         residue = _residue(arrows, flow)
-        heights, came, _ = fallen(names, residue, [0 if lacks[name] < 0 else None for name in names])
-        # Flow that is sent along a cheapest way never leaves a ring below 0 behind it.
-        end = min([name for name in names if lacks[name] > 0 and heights[name] is not None])
+        _, came, _ = fallen(names, residue, [0 if lacks[name] < 0 else None for name in names])
+        # Flow that is sent along a cheapest way never leaves a ring below 0 behind it. As the weights themselves would
+        # be such a flow, some way leads to each name that lacks.
+        end = min([name for name in names if lacks[name] > 0])
         way = way_back(residue, came, end)
         source = residue[way[0]][0]
         _send(flow, [residue[place] for place in way], min(lacks[end], -lacks[source]))

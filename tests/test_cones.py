@@ -100,11 +100,22 @@ class Cones(Case):
         # Stretches that touch are one, whatever they come of.
         self.same(self.told(((), ()), ((3, 5, put("c", LEVEL)),), ((5, 7, put("c", LEVEL)),), 9)[1], (("c", ((3, 7),)),))
 
+    def test_several_stretches(self):
+        def stands(*spans):
+            return tuple((low, high, put("c", LEVEL)) for low, high in spans)
+
+        nothing = (), ()
+        self.same(self.told(nothing, stands((1, 2), (4, 6)), stands((6, 8)), 9)[1], (("c", ((1, 2), (4, 8))),))
+        self.same(self.told(nothing, (), stands((1, 2), (3, 4), (5, 6), (6, 7)), 9)[1], (("c", ((1, 2), (3, 4), (5, 7))),))
+
     def test_seeds_by_kinds_and_knobs(self):
         one = project(a=LEVEL)
         self.same(self.told(one, (), ((2, 4, ("knobs", "a", (6,))),), 6), ((("a", 2), ("a", 3)), (("a", ((2, 6),)),)))
         self.same(self.told(one, (), ((2, 4, ("knobs", "a", (5,))),), 6), ((), ()))
         self.same(self.told(one, (), ((2, 4, put("a", clock())),), 6), ((("a", 2), ("a", 3), ("a", 4)), (("a", ((2, 6),)),)))
+        # Kinds differ even where knobs and inlets are alike.
+        one = project(a=("peak", 0, (3,), (None,)))
+        self.same(self.told(one, (), ((0, None, put("a", ("mean", 0, (3,), (None,)))),), 3)[0], (("a", 0), ("a", 1), ("a", 2)))
         # Two scores with the same notes settle alike.
         loud = ("loud", 7), ("loud", 4096), NOTE
         tune = project({"s": song((NOTE,)), "t": song(loud)}, v=("voices", 0, voices("s"), (None,)))

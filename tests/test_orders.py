@@ -142,6 +142,7 @@ class Partings(Case):
             (right[0], (((ONE,), 0), ([ONE, 0, 0], 0)), right[2]), (right[0], (((ONE,), 0), ((ONE, 0, 1), 0)), right[2]),
             (right[0], right[1], (((ONE,), 0), ((-ONE, 0, 0), 1))), (right[0], right[1], (((-ONE,), 0), ((ONE, 0, 0), 0))),
             (right[0], right[1], (((-ONE,), 1), ((ONE, 0, 0), 0), ((), 0))), ((0, 5),) + right[1:],
+            ((2,), (((0,), 0), ((0, ONE, 0), 0)), (((0,), 0), ((0, -ONE, 0), 1))),
         ):
             self.assertIs(is_parted(names, wires, wrong), False, wrong)
         for thing in ANYTHING:

@@ -210,7 +210,7 @@ class Fitting(Case):
             (names, ((0, 1), (0, 1, 3)), states), (("a", "c"), worths, states), (("a", 1), worths, states), ((), worths, states),
             (names, ((0, True, 2), (0, 1, 3)), states), (names, worths, ((1, 2, False), (0, 0, 0))), (names, worths, ((1, 2, 0), (0, 0, None))),
             (names, ([0, 1, 2], (0, 1, 3)), states), (names, worths, ([1, 2, 0], (0, 0, 0))), (names, (), ()), (names, ((), ()), ((), ())),
-            ((), (), ((),)), ((), ((),), ()), (names, None, None), (None, None, None), (names, 3, states), (names, worths, 3), None, "abc",
+            ((), (), ((),)), ((), ((),), ()), (names, (3, 4), states), (names, None, None), (None, None, None), (names, 3, states), (names, worths, 3), None, "abc",
         ):
             self.assertIs(is_run(DUO, (), MUTE, thing), False, thing)
         for thing in ANYTHING:
@@ -221,6 +221,12 @@ class Fitting(Case):
         self.assertIs(is_run(DUO, (), MUTE, NOTHING), True)
         self.assertIs(is_run(((), ()), (), MUTE, NOTHING), True)
         self.assertIs(is_run(((), ()), (), MUTE, (("a",), ((0,),), ((None,),))), False)
+
+    def test_goals_above_the_last_are_none(self):
+        one = project(a=LEVEL)
+        for goal in (LAST, LAST + 1):
+            thing = (("a",), ((5,) * goal,), ((0,) * goal,))
+            self.assertIs(is_run(one, (), MUTE, thing), goal == LAST)
 
     def test_names_that_stand_below_the_goal_alone(self):
         entries = ((4, None, ("put", "c", "level", (5,), ())),)
