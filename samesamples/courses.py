@@ -1,7 +1,9 @@
 """The course of a history: its segments with the settled boxes that stand there, and which boxes are carried."""
 
+from samesamples.kinds import LAST
 from samesamples.projects import life_by, order_in, settled_by
 from samesamples.segments import segments_by
+from samesamples.stretches import Stretches
 
 
 class Segment:
@@ -13,6 +15,7 @@ class Segment:
     def __init__(self, low, high, project, book):
         self.low = low
         self.high = high
+        self.project = project
         self.boxes = dict(settled_by(project, book))
         self.lives = {name: life_by(box) for name, box in project[0]}
         self.order = order_in(project)
@@ -32,23 +35,41 @@ class Segment:
 
 
 class Course:
-    """All segments of a history."""
+    """All segments of a history, and the stretches of samples below LAST at which names stand."""
 
     def __init__(self, project, entries, book):
         self.segments = []
+        self.stood = Stretches()
         for low, high, standing in segments_by(project, entries, book):
             segment = Segment(low, high, standing, book)
             if self.segments:
                 segment.go_on_from(self.segments[-1])
             self.segments.append(segment)
+        for segment, high in self.below(LAST):
+            for name in segment.order:
+                self.stood.put(name, segment.low, high)
 
     def below(self, goal):
         """The pairs of a segment and where it ends, as far as they begin below goal."""
+        return [(segment, end) for segment, _, end in self.spans(0, goal)]
+
+    def spans(self, low, high):
+        """The triples of a segment, where it begins and where it ends, cut to the samples from low to below high."""
         found = []
         for segment in self.segments:
-            if segment.low < goal:
-                found.append((segment, goal if segment.high is None else min(segment.high, goal)))
+            start = max(segment.low, low)
+            end = high if segment.high is None else min(segment.high, high)
+            if start < end:
+                found.append((segment, start, end))
         return found
+
+    def segment_at(self, sample):
+        """The segment in which the sample lies."""
+        return [segment for segment in self.segments if segment.low <= sample][-1]
+
+    def stands(self, name, sample):
+        """Whether the name stands at this sample, which is below LAST; below 0 none does."""
+        return sample >= 0 and self.stood.first(name, sample) == sample
 
     def names(self, goal):
         """The names that stand at some sample below goal, ascending."""

@@ -13,7 +13,12 @@ def sure_until(project, entries, amounts, goal):
     demand(is_entries(entries), "entries")
     demand(is_amounts(amounts), "amounts")
     demand(is_goal(goal), "goal")
-    course = Course(project, entries, NoteBook())
+    firsts = first_lacks(Course(project, entries, NoteBook()), amounts, goal)
+    return tuple([(name, firsts[name]) for name in sorted(firsts)])
+
+
+def first_lacks(course, amounts, goal):
+    """By name the first sample below goal that is not sure, or goal, for the names that stand below goal."""
     marks = no_marks(course.names(goal), goal)
     for segment, high in course.below(goal):
         for name in segment.order:
@@ -21,8 +26,9 @@ def sure_until(project, entries, amounts, goal):
             lacking = lacking_from(segment.boxes[name], amounts)
             for sample in range(segment.low, high):
                 marks[name][sample] = lacking is not None and sample >= lacking
-    spread(course, marks, goal)
-    return tuple([(name, (marks[name] + [True]).index(True)) for name in sorted(marks)])
+    if any([any(marks[name]) for name in marks]):
+        spread(course, marks, goal)
+    return {name: (marks[name] + [True]).index(True) for name in marks}
 
 
 def is_amounts(thing):

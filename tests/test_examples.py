@@ -1,7 +1,10 @@
 """The examples of the document."""
 
+from samesamples.aheads import go_ahead, needed_now
+from samesamples.bounces import frozen_deed
 from samesamples.boxkinds import inlets_of, kind_names, shape_of
 from samesamples.buffers import greatest_buffer
+from samesamples.choices import steps_left
 from samesamples.cones import cone_of, seeds_of
 from samesamples.conestretches import cone_by_segments
 from samesamples.curves import curve_at
@@ -10,7 +13,9 @@ from samesamples.datatexts import text_of
 from samesamples.deedkinds import is_deed
 from samesamples.deeds import done
 from samesamples.draws import draw, drawn, leap_draw
-from samesamples.errors import BadText, NotLet
+from samesamples.driving import worked
+from samesamples.engine import Engine
+from samesamples.errors import BadText, Heard, LongBuffer, NotLet
 from samesamples.fitting import is_run
 from samesamples.freeruns import free_runs
 from samesamples.hangings import hangs_on, touched_by
@@ -19,14 +24,20 @@ from samesamples.kinds import is_name, is_number, is_quotient, is_sound
 from samesamples.knobkinds import is_knobs, is_settled
 from samesamples.leaps import leap_of
 from samesamples.lengths import items_count, items_length
+from samesamples.loading import loaded
+from samesamples.needs import channels_needed, needs_of
 from samesamples.orders import order_of
 from samesamples.partings import parting_of
 from samesamples.projectkinds import is_box, reason_against
 from samesamples.projectreadings import read_project
 from samesamples.projects import beside, life_of, names_of, order_in, wires_of
 from samesamples.projecttexts import show_project
+from samesamples.pulls import pull
 from samesamples.quotients import floor_of, minus, over, quotient_of
+from samesamples.reaches import reach_of
+from samesamples.reachnow import reach_now
 from samesamples.ringsums import height_ways, ring_sum
+from samesamples.rounds import buffer_now, go_rounds
 from samesamples.runs import run_of
 from samesamples.scorekinds import is_score
 from samesamples.scorenotes import notes_of
@@ -209,3 +220,56 @@ class Histories(Case):
         self.same(hangs_on(DUO, (), "b", 1), (("a", 0), ("a", 1), ("b", 0), ("b", 1)))
         self.same(touched_by(DUO, ECHO, "b", 1, 4), (("b", 1), ("b", 2), ("b", 3)))
         self.same(sure_until(FED, (), (0, 3, 0, 0), 9), (("f", 3), ("g", 5)))
+
+    def test_reach_and_needs(self):
+        self.same(reach_of(FED, (), (("f", 1), ("z", 7)), ("z",), (0, 3, 0, 0), 9), (("f", 3), ("g", 5), ("z", 7)))
+        self.same(needs_of(FED, (), (("f", 1),), "g", 6), (("f", 4), ("g", 6)))
+        self.same(channels_needed(FED, (), (("f", 0, 4), ("g", 0, 6))), (0, 4, 0, 0))
+
+
+class Engines(Case):
+    def test_what_is_taken_and_what_is_refused_as_heard(self):
+        for heard in (2, 3):
+            engine = Engine(DUO, ("b",))
+            pull(engine, heard)
+            if heard == 2:
+                self.same(engine.change(*ECHO[0][::2]), ())
+            else:
+                self.raises(Heard, ("b", 2), engine.change, *ECHO[0][::2])
+
+    def test_at_work(self):
+        engine = Engine(DUO, ("b",))
+        self.same((engine.names(), engine.front("b"), engine.heard()), (("a", "b"), 0, 0))
+        studio = Engine(((("m", ("feed", 0, (0,), ())),), ()), ("m",))
+        self.same((studio.give(0, (5, -6)), studio.shut(0), studio.begin(0, "m", 3), studio.end(0)), (None, None, 0, True))
+        self.same(studio.hear(3), ((5,), (-6,), (0,)))
+        self.same((engine.begin(0, "a", 3), engine.end(0), engine.ready("b", 2)), (0, True, (1, 1)))
+        self.same((engine.begin(1, "b", 1), engine.end(1), engine.begin(1, "b", 1), engine.end(1)), (0, True, 1, True))
+        self.same(engine.hear(2), ((0,), (1,)))
+        told = engine.begin(2, "b", 1), engine.change(2, ("wire", "b", 0, "a", 1)), engine.busy()
+        self.same(told, (2, (), ((2, "b", 2, 1, True),)))
+        self.same((engine.begin(3, "b", 1), engine.end(3), engine.end(2), engine.worths("b", 0, 3)), (2, True, False, (0, 1, 2)))
+        self.same((engine.undo(2), engine.undone()), ((("b", 2),), (("wire", "b", 0, "a", 1),)))
+        engine.seal()
+        self.same((engine.wanted("a"), engine.room("a"), engine.wanted("b"), engine.room("b")), (2, 1, 1, 1))
+        told = engine.fronts(), engine.entries(), engine.amounts()
+        self.same(told, ((("a", 3), ("b", 2)), ((2, 2, ("wire", "b", 0, "a", 1)),), (0, 0, 0, 0)))
+
+    def test_saves(self):
+        self.same(Engine(((), ()), ("a",)).save(), "((()())()()(sa;)(()()()())(ffff)i0;f()())")
+        self.same(loaded("((()())()()(sa;)(()()()())(ffff)i0;f((sa;i2;))())").hear(1), ((0,),))
+
+    def test_workings(self):
+        engine = Engine(DUO, ("b",))
+        self.same(steps_left(engine, 3, (1, 2), 2), (("begin", 0, "a", 1), ("begin", 0, "a", 2)))
+        self.same(worked(engine, 3, (1,), (1, 2), 2), 5)
+
+    def test_rounds_needs_pulls_and_sounds(self):
+        engine = Engine(DUO, ("b",))
+        self.same((buffer_now(engine), go_rounds(engine, (1, 2))), (1, 4))
+        self.raises(LongBuffer, (1,), go_rounds, Engine(DUO, ("b",)), (1, 3))
+        self.same(needed_now(engine, "b", 3), (("a", 3), ("b", 3)))
+        self.same(go_ahead(engine, "a", 4), (("a", 4),))
+        self.same(pull(engine, 3), ((0,), (1,), (3,)))
+        self.same(frozen_deed(engine, "b", 1, 3), ("all", (("put", "b", "roll", ((1, 3),), ()), ("anew", "b"))))
+        self.same(reach_now(engine, ("a",), 9), (("a", 4), ("b", 4)))

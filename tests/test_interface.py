@@ -71,6 +71,28 @@ INTERFACE = {
     "freeruns": {"free_runs": "project one other goal"},
     "hangings": {"hangs_on": "project entries name sample", "touched_by": "project entries name sample goal"},
     "sures": {"sure_until": "project entries amounts goal"},
+    "reaches": {"reach_of": "project entries fronts still amounts goal"},
+    "needs": {"needs_of": "project entries fronts name until", "channels_needed": "project entries spans"},
+    "loading": {"loaded": "text"},
+    "choices": {"steps_left": "engine goal sizes hands"},
+    "driving": {"worked": "engine goal picks sizes hands"},
+    "rounds": {"buffer_now": "engine", "go_rounds": "engine cuts"},
+    "aheads": {"needed_now": "engine name until", "go_ahead": "engine name until"},
+    "pulls": {"pull": "engine many"},
+    "bounces": {"bounce": "engine name low high", "frozen_deed": "engine name low high"},
+    "reachnow": {"reach_now": "engine still goal"},
+    "evers": {
+        "names_ever": "project entries", "wires_ever": "project entries", "feeds_ever": "project entries",
+    },
+}
+CLASSES = {
+    ("engine", "Engine"): {
+        "__init__": "project ears entries=", "give": "channel worths", "shut": "channel", "begin": "hand name many",
+        "end": "hand", "drop": "hand", "ready": "name many", "hear": "many", "change": "sample deed", "undo": "sample",
+        "redo": "sample", "seal": "", "wanted": "name", "room": "name", "worths": "name low high", "project": "",
+        "entries": "", "undone": "", "ears": "", "given": "", "amounts": "", "heard": "", "sealed": "", "names": "",
+        "front": "name", "fronts": "", "busy": "", "save": "",
+    },
 }
 
 
@@ -87,3 +109,18 @@ class Interface(Case):
                 for parameter in parameters.values():
                     self.assertEqual(parameter.kind, parameter.POSITIONAL_OR_KEYWORD)
                     self.assertIs(parameter.default, parameter.empty)
+
+    def test_each_class(self):
+        for (file, name), methods in CLASSES.items():
+            one = getattr(importlib.import_module("samesamples." + file), name)
+            self.assertTrue(inspect.isclass(one), name)
+            self.assertEqual(one.__module__, "samesamples." + file)
+            for method, told in methods.items():
+                # Each method stands in the class itself.
+                self.assertTrue(inspect.isfunction(vars(one).get(method)), f"{name}.{method}")
+                parameters = list(inspect.signature(vars(one)[method]).parameters.values())[1:]
+                words = [one.name + ("" if one.default is one.empty else "=") for one in parameters]
+                self.assertEqual(words, told.split(), f"{name}.{method}")
+                for parameter in parameters:
+                    self.assertEqual(parameter.kind, parameter.POSITIONAL_OR_KEYWORD)
+                    self.assertIn(parameter.default, (parameter.empty, ()))

@@ -1,0 +1,69 @@
+"""Rounds: all names of an engine go on by one job each, one after the other."""
+
+from samesamples.aheads import demand_given, demand_no_slips
+from samesamples.buffers import greatest_buffer
+from samesamples.demands import demand
+from samesamples.enginekinds import are_cuts
+from samesamples.errors import AcrossSeam, LongBuffer, Uneven
+from samesamples.kinds import LAST
+from samesamples.projects import names_of, wires_of
+from samesamples.segments import seams_of
+
+
+def buffer_now(engine):
+    """The greatest buffer of what stands at the greatest front."""
+    return _buffer_at(engine, min(_greatest_front(engine), LAST - 1))[0]
+
+
+def go_rounds(engine, cuts):
+    """Bring all names to each cut in its turn; returns how many jobs there were."""
+    front = _greatest_front(engine)
+    demand(are_cuts(cuts, front), "cuts")
+    demand_no_slips(engine)
+    names = engine.names()
+    for name in names:
+        if engine.front(name) != engine.front(names[0]):
+            raise Uneven(name)
+    rounds = list(zip((front,) + cuts, cuts))
+    _demand_seams_apart(engine, rounds)
+    _demand_short(engine, rounds)
+    demand_given(engine, [(name, cuts[-1]) for name in names])
+    for low, high in rounds:
+        _go_round(engine, low, high)
+    return len(rounds) * len(names)
+
+
+def _greatest_front(engine):
+    return max([front for _, front in engine.fronts()], default=0)
+
+
+def _buffer_at(engine, sample):
+    """The triple of the greatest buffer of what stands at the sample, an order and a ring."""
+    project = engine.course().segment_at(sample).project
+    return greatest_buffer(names_of(project), wires_of(project))
+
+
+def _demand_seams_apart(engine, rounds):
+    """Refuse rounds with a seam within."""
+    seams = seams_of(engine.entries())
+    for low, high in rounds:
+        within = [seam for seam in seams if low < seam < high]
+        if within:
+            raise AcrossSeam(within[0])
+
+
+def _demand_short(engine, rounds):
+    """Refuse rounds that are longer than the greatest buffer where they begin."""
+    for low, high in rounds:
+        greatest = _buffer_at(engine, low)[0]
+        if greatest is not None and high - low > greatest:
+            raise LongBuffer(greatest)
+
+
+def _go_round(engine, low, high):
+    """Bring each name from low to high by one job, along the wires that are shorter than the round."""
+    order = _buffer_at(engine, low)[1]
+    away = [name for name in engine.names() if name not in order]
+    for name in away + list(order):
+        engine.begin(0, name, high - low)
+        engine.end(0)
