@@ -4,6 +4,14 @@
 class SoundError(ValueError):
     """The base of all errors of the package."""
 
+    def fields(self):
+        """The fields, in their order."""
+        return ()
+
+    def words(self):
+        """The name of the error, and its fields."""
+        return (self.__class__.__name__,) + self.fields()
+
 
 class PaperError(SoundError):
     """A paper that its checker does not accept."""
@@ -28,6 +36,10 @@ class InvalidPaper(PaperError):
         self.word = word
         self.at = at
 
+    def fields(self):
+        """The fields, in their order."""
+        return self.word, self.at
+
 
 class NotUsable(UseError):
     """The parameter called word is not as stated."""
@@ -36,12 +48,20 @@ class NotUsable(UseError):
         self.word = word
         self.at = at
 
+    def fields(self):
+        """The fields, in their order."""
+        return self.word, self.at
+
 
 class BadText(UseError):
     """A text that shows nothing, at this row."""
 
     def __init__(self, row):
         self.row = row
+
+    def fields(self):
+        """The fields, in their order."""
+        return (self.row,)
 
 
 class KeyAway(UseError):
@@ -50,12 +70,20 @@ class KeyAway(UseError):
     def __init__(self, key):
         self.key = key
 
+    def fields(self):
+        """The fields, in their order."""
+        return (self.key,)
+
 
 class TooMany(UseError):
     """So many of something that it is refused."""
 
     def __init__(self, many):
         self.many = many
+
+    def fields(self):
+        """The fields, in their order."""
+        return (self.many,)
 
 
 class NotLet(DeedError):
@@ -65,12 +93,20 @@ class NotLet(DeedError):
         self.reason = reason
         self.name = name
 
+    def fields(self):
+        """The fields, in their order."""
+        return self.reason, self.name
+
 
 class HandBusy(EngineError):
     """The hand has a slip."""
 
     def __init__(self, hand):
         self.hand = hand
+
+    def fields(self):
+        """The fields, in their order."""
+        return (self.hand,)
 
 
 class NoName(EngineError):
@@ -79,12 +115,20 @@ class NoName(EngineError):
     def __init__(self, name):
         self.name = name
 
+    def fields(self):
+        """The fields, in their order."""
+        return (self.name,)
+
 
 class NameTaken(EngineError):
     """The name has a slip that is not struck."""
 
     def __init__(self, name):
         self.name = name
+
+    def fields(self):
+        """The fields, in their order."""
+        return (self.name,)
 
 
 class NotReady(EngineError):
@@ -94,12 +138,20 @@ class NotReady(EngineError):
         self.sample = sample
         self.inlet = inlet
 
+    def fields(self):
+        """The fields, in their order."""
+        return self.sample, self.inlet
+
 
 class NoSlip(EngineError):
     """The hand has no slip."""
 
     def __init__(self, hand):
         self.hand = hand
+
+    def fields(self):
+        """The fields, in their order."""
+        return (self.hand,)
 
 
 class Sealed(EngineError):
@@ -115,12 +167,20 @@ class TooFar(EngineError):
     def __init__(self, sample):
         self.sample = sample
 
+    def fields(self):
+        """The fields, in their order."""
+        return (self.sample,)
+
 
 class Shut(EngineError):
     """The channel is shut."""
 
     def __init__(self, channel):
         self.channel = channel
+
+    def fields(self):
+        """The fields, in their order."""
+        return (self.channel,)
 
 
 class Heard(EngineError):
@@ -129,6 +189,10 @@ class Heard(EngineError):
     def __init__(self, name, sample):
         self.name = name
         self.sample = sample
+
+    def fields(self):
+        """The fields, in their order."""
+        return self.name, self.sample
 
 
 class NothingToUndo(EngineError):
@@ -151,12 +215,20 @@ class NotYet(EngineError):
     def __init__(self, name):
         self.name = name
 
+    def fields(self):
+        """The fields, in their order."""
+        return (self.name,)
+
 
 class Gone(EngineError):
     """The name's worths are not kept any more."""
 
     def __init__(self, name):
         self.name = name
+
+    def fields(self):
+        """The fields, in their order."""
+        return (self.name,)
 
 
 class NotGiven(EngineError):
@@ -166,12 +238,20 @@ class NotGiven(EngineError):
         self.channel = channel
         self.many = many
 
+    def fields(self):
+        """The fields, in their order."""
+        return self.channel, self.many
+
 
 class Uneven(EngineError):
     """The fronts are not even, at this name."""
 
     def __init__(self, name):
         self.name = name
+
+    def fields(self):
+        """The fields, in their order."""
+        return (self.name,)
 
 
 class AcrossSeam(EngineError):
@@ -180,9 +260,17 @@ class AcrossSeam(EngineError):
     def __init__(self, seam):
         self.seam = seam
 
+    def fields(self):
+        """The fields, in their order."""
+        return (self.seam,)
+
 
 class LongBuffer(EngineError):
     """A buffer above the greatest one."""
 
     def __init__(self, greatest):
         self.greatest = greatest
+
+    def fields(self):
+        """The fields, in their order."""
+        return (self.greatest,)

@@ -47,8 +47,9 @@ def _slips_of(run, busy):
     slips = {}
     for hand, name, low, many, struck in busy:
         worths, states = ([], []) if struck else _worked_in(run, name, low, low + many)
-        slips[hand] = Slip(name, low, many, worths, states)
-        slips[hand].struck = struck
+        slip = Slip(name, low, many, worths, states)
+        slip.struck = struck
+        slips[hand] = slip
     return slips
 
 

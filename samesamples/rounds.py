@@ -12,7 +12,12 @@ from samesamples.segments import seams_of
 
 def buffer_now(engine):
     """The greatest buffer of what stands at the greatest front."""
-    return _buffer_at(engine, min(_greatest_front(engine), LAST - 1))[0]
+    return _buffer_of(project_now(engine))[0]
+
+
+def project_now(engine):
+    """The project that stands at the greatest front; that of the last sample if the front is behind it."""
+    return engine.course().segment_at(min(_greatest_front(engine), LAST - 1)).project
 
 
 def go_rounds(engine, cuts):
@@ -37,10 +42,14 @@ def _greatest_front(engine):
     return max([front for _, front in engine.fronts()], default=0)
 
 
-def _buffer_at(engine, sample):
-    """The triple of the greatest buffer of what stands at the sample, an order and a ring."""
-    project = engine.course().segment_at(sample).project
+def _buffer_of(project):
+    """The triple of the project's greatest buffer, an order and a ring."""
     return greatest_buffer(names_of(project), wires_of(project))
+
+
+def _buffer_at(engine, sample):
+    """The same of what stands at the sample."""
+    return _buffer_of(engine.course().segment_at(sample).project)
 
 
 def _demand_seams_apart(engine, rounds):

@@ -12,6 +12,9 @@ from samesamples.datareadings import value_of
 from samesamples.datatexts import text_of
 from samesamples.deedkinds import is_deed
 from samesamples.deeds import done
+from samesamples.desk import Desk
+from samesamples.deskwords import is_command
+from samesamples.device import Device
 from samesamples.draws import draw, drawn, leap_draw
 from samesamples.driving import worked
 from samesamples.engine import Engine
@@ -20,10 +23,13 @@ from samesamples.fitting import is_run
 from samesamples.freeruns import free_runs
 from samesamples.hangings import hangs_on, touched_by
 from samesamples.histories import sleeping, standing
+from samesamples.journals import whole_rows
 from samesamples.kinds import is_name, is_number, is_quotient, is_sound
 from samesamples.knobkinds import is_knobs, is_settled
+from samesamples.lags import least_lags
 from samesamples.leaps import leap_of
 from samesamples.lengths import items_count, items_length
+from samesamples.lines import line_lengths
 from samesamples.loading import loaded
 from samesamples.needs import channels_needed, needs_of
 from samesamples.orders import order_of
@@ -36,6 +42,7 @@ from samesamples.pulls import pull
 from samesamples.quotients import floor_of, minus, over, quotient_of
 from samesamples.reaches import reach_of
 from samesamples.reachnow import reach_now
+from samesamples.reviving import revived
 from samesamples.ringsums import height_ways, ring_sum
 from samesamples.rounds import buffer_now, go_rounds
 from samesamples.runs import run_of
@@ -45,6 +52,7 @@ from samesamples.scorereadings import read_score
 from samesamples.scoretexts import show_score
 from samesamples.segments import seams_of, segments_of
 from samesamples.slacks import least_slack
+from samesamples.soundtexts import show_sound
 from samesamples.states import is_state, start_of
 from samesamples.steps import block_of, one_step
 from samesamples.sures import sure_until
@@ -273,3 +281,33 @@ class Engines(Case):
         self.same(pull(engine, 3), ((0,), (1,), (3,)))
         self.same(frozen_deed(engine, "b", 1, 3), ("all", (("put", "b", "roll", ((1, 3),), ()), ("anew", "b"))))
         self.same(reach_now(engine, ("a",), 9), (("a", 4), ("b", 4)))
+
+
+class Devices(Case):
+    def test_lags_and_lines(self):
+        self.same(least_lags(("a", "b"), (("a", "b", 0), ("b", "a", 3)), (("a", 1), ("b", 2))), ("lags", (1, 3)))
+        self.same(line_lengths(("f", "g"), (("f", "g", 2),), (("f", 1),), (), (0, 0)), ((("f", 2),), ((1, 0),)))
+
+    def test_device(self):
+        device, zero = Device(DUO, ECHO, (("b", 1),), ("b",), (0, 1)), (0, 0, 0, 0)
+        self.same((device.tick(zero), device.tick(zero), device.tick(zero)), ((0,), (0,), (1,)))
+
+    def test_sounds(self):
+        self.same(show_sound((0, 0, -5)), "sound 3 0*2 -5*1")
+
+
+class Desks(Case):
+    def test_rows(self):
+        self.same(whole_rows("seal\n\nfront b\nbus"), ("seal", "", "front b"))
+        self.same((is_command("begin -7 B! 3"), is_command("begin 0 b 03"), is_command("begin 0  b 3")), (True, False, False))
+
+    def test_desk(self):
+        desk = Desk()
+        told = desk.do("names"), desk.do("name"), desk.do("new b " + text_of(DUO)), desk.do("names")
+        self.same(told, ("no Engine", "no Unknown", "ok", "ok a b"))
+        self.same((desk.do("begin 0 b 1"), desk.do("work 3 1 1 0"), desk.do("hear 2")), ("no NotReady 0 0", "ok 6", "ok 0 1"))
+        told = desk.do("change 2 (swire;sb;i0;sa;i1;)"), desk.do("hear 1"), desk.do("pull 1"), desk.do("undo 2")
+        self.same(told, ("ok b:2", "no NotYet b", "ok 2", "no Heard b 2"))
+        told = desk.do("lags b:1"), desk.do("lags b:2"), desk.do("buffer"), desk.do("lags b:0")
+        self.same(told, ("ok a:0 b:1", "no Ring b", "ok 1", "no NotUsable late -1"))
+        self.same(revived("seal\nsea").journal(), "seal\n")

@@ -84,6 +84,21 @@ INTERFACE = {
     "evers": {
         "names_ever": "project entries", "wires_ever": "project entries", "feeds_ever": "project entries",
     },
+    "lags": {"least_lags": "names wires late", "are_lags": "names wires late thing"},
+    "lines": {"line_lengths": "names wires feeds late lags", "total_held": "names wires feeds late lags"},
+    "linequestions": {
+        "line_question": "names wires feeds late ears lag", "least_lines": "names wires feeds late ears lag",
+        "lets_lines": "names wires feeds late ears lag thing",
+    },
+    "soundparts": {
+        "cut": "sound low high", "joined": "sounds", "mixed": "parts", "faded": "sound points", "turned_back": "sound",
+    },
+    "spreads": {"spread": "sound many", "kept_each": "sound many"},
+    "soundtexts": {"show_sound": "sound", "read_sound": "text"},
+    "resampling": {"resampled": "sound up down weights", "steady": "up down weights"},
+    "journals": {"whole_rows": "text"},
+    "deskwords": {"is_command": "row"},
+    "reviving": {"revived": "text"},
 }
 CLASSES = {
     ("engine", "Engine"): {
@@ -93,6 +108,11 @@ CLASSES = {
         "entries": "", "undone": "", "ears": "", "given": "", "amounts": "", "heard": "", "sealed": "", "names": "",
         "front": "name", "fronts": "", "busy": "", "save": "",
     },
+    ("device", "Device"): {
+        "__init__": "project entries late ears lags", "tick": "given", "ticks": "", "lengths": "", "held": "",
+    },
+    ("resampling", "Resampler"): {"__init__": "up down weights", "push": "sound", "told": ""},
+    ("desk", "Desk"): {"__init__": "", "do": "row", "journal": ""},
 }
 
 

@@ -52,6 +52,8 @@ class Calls(unittest.TestCase):
         methods = {name for _, _, names, _ in own_attributes() for name in names}
         called = {id(node.func) for _, node in each(ast.Call)}
         for where, node in each(ast.Attribute):
+            if ast.unparse(node) in ("self.__class__", "self.__class__.__name__"):
+                continue
             if isinstance(node.ctx, ast.Load) and id(node) not in called:
                 self.assertIn(node.attr, assigned, where)
             elif id(node) in called:
@@ -73,7 +75,9 @@ class Calls(unittest.TestCase):
         for _, node in each(ast.ClassDef):
             for part in node.body:
                 if isinstance(part, ast.FunctionDef):
-                    takes.setdefault(node.name if part.name == "__init__" else part.name, []).append(len(part.args.args) - 1)
+                    most = len(part.args.args) - 1
+                    many = range(most - len(part.args.defaults), most + 1)
+                    takes.setdefault(node.name if part.name == "__init__" else part.name, []).extend(many)
         for where, node in each(ast.Call):
             is_method = isinstance(node.func, ast.Attribute)
             name = node.func.attr if is_method else getattr(node.func, "id", None)
