@@ -67,7 +67,8 @@ class Device:
         """Work out the sample of the names with this lag."""
         order = self._course.segment_at(sample).order
         late = [name for name in self._lags if self._lags[name] == lag]
-        for name in [name for name in late if name not in order] + [name for name in order if name in late]:
+        away = [name for name in late if name not in order]
+        for name in away + [one for one in order if one in late]:
             worths, states = worked_out(self._course, self._tracks, self._filling, name, sample, sample + 1)
             self._tracks.lay(name, worths, states)
             self._tracks.track(name).forget(sample + 1 - self._kept[name])

@@ -31,10 +31,14 @@ def go_rounds(engine, cuts):
             raise Uneven(name)
     rounds = list(zip((front,) + cuts, cuts))
     _demand_seams_apart(engine, rounds)
-    _demand_short(engine, rounds)
+    buffers = _buffers_along(engine, rounds)
+    _demand_short(rounds, buffers)
     demand_given(engine, [(name, cuts[-1]) for name in names])
-    for low, high in rounds:
-        _go_round(engine, low, high)
+    for (low, high), (_, order, _) in zip(rounds, buffers):
+        # No wire that is shorter than the round leads from a later name to an earlier one.
+        for name in [one for one in names if one not in order] + list(order):
+            engine.begin(0, name, high - low)
+            engine.end(0)
     return len(rounds) * len(names)
 
 
@@ -47,9 +51,16 @@ def _buffer_of(project):
     return greatest_buffer(names_of(project), wires_of(project))
 
 
-def _buffer_at(engine, sample):
-    """The same of what stands at the sample."""
-    return _buffer_of(engine.course().segment_at(sample).project)
+def _buffers_along(engine, rounds):
+    """For each round the triple of the greatest buffer of what stands where it begins."""
+    told = []
+    known = {}
+    for low, _ in rounds:
+        segment = engine.course().segment_at(low)
+        if segment.low not in known:
+            known[segment.low] = _buffer_of(segment.project)
+        told.append(known[segment.low])
+    return told
 
 
 def _demand_seams_apart(engine, rounds):
@@ -61,18 +72,8 @@ def _demand_seams_apart(engine, rounds):
             raise AcrossSeam(within[0])
 
 
-def _demand_short(engine, rounds):
+def _demand_short(rounds, buffers):
     """Refuse rounds that are longer than the greatest buffer where they begin."""
-    for low, high in rounds:
-        greatest = _buffer_at(engine, low)[0]
+    for (low, high), (greatest, _, _) in zip(rounds, buffers):
         if greatest is not None and high - low > greatest:
             raise LongBuffer(greatest)
-
-
-def _go_round(engine, low, high):
-    """Bring each name from low to high by one job, along the wires that are shorter than the round."""
-    order = _buffer_at(engine, low)[1]
-    away = [name for name in engine.names() if name not in order]
-    for name in away + list(order):
-        engine.begin(0, name, high - low)
-        engine.end(0)

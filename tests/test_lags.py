@@ -245,6 +245,32 @@ class Questions(Case):
             else:
                 self.raises(InvalidPaper, ("flow", -1), lets_lines, *question, (other, flow, held))
 
+    def test_when_lags_with_one_told_lag_exist(self):
+        """[11] (G10): just if lags exist, the lag is at least each ear's least, and ways from ear to ear are slow enough."""
+        source = drawing(110)
+        seen = {"lines": 0, "ring": 0}
+        for _ in range(300):
+            names = tuple("abcde"[:source.randint(1, 5)])
+            wires, late = drawn_wires(source, names, 6, 4), drawn_late(source, names, 2)
+            ears = tuple(source.sample(names, source.randint(1, min(3, len(names)))))
+            lag = source.randint(0, 6)
+            lates, word, told = dict(late), *least_lags(names, wires, late)
+            exist = word == "lags"
+            if exist:
+                ways = {(one, one): 0 for one in names}
+                for _ in names:
+                    for start, _ in list(ways):
+                        for name, later, delay in wires:
+                            if (start, name) in ways:
+                                way = ways[start, name] + delay - lates.get(later, 0)
+                                ways[start, later] = min(way, ways.get((start, later), way))
+                exist = all(lag >= dict(zip(names, told))[ear] for ear in ears)
+                exist = exist and all(ways.get((one, other), 0) >= 0 for one in ears for other in ears)
+            answer = least_lines(names, wires, (), late, ears, lag)[0]
+            self.same(answer, "lines" if exist else "ring")
+            seen[answer] += 1
+        self.assertTrue(min(seen.values()) > 60, seen)
+
     def test_entries_in_their_sequence(self):
         question = self.NAMES, self.WIRES, self.FEEDS, (("b", 2),), ("b",), 5
         _, lags, flow, total = least_lines(*question)
