@@ -103,10 +103,11 @@ class Changing(Refusals):
         self.same((engine.fronts(), engine.heard()), ((("b", 9),), 9))
 
     def test_slips(self):
-        one = project(a=clock(), b=mix(("a", 2)))
+        one = project(a=clock(), b=mix(("a", 2)), c=clock())
         for sample, struck in ((0, True), (1, True), (3, True), (4, True), (5, False), (9, False)):
             engine = Engine(one, ("b",))
             work(engine, "a", 2)
+            work(engine, "c", 20)
             engine.begin(7, "a", 3)
             engine.change(sample, ("anew", "a") if sample else ("knobs", "a", (3, 0, 9)))
             # The slip is that of the samples 2 to 4: a touched place behind its end does not strike it.

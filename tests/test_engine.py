@@ -191,6 +191,35 @@ class Jobs(Case):
         self.same((work(engine, "g", 8), work(engine, "f", 6)), (True, True))
         self.same((engine.worths("g", 0, 8), engine.worths("f", 0, 6)), ((0,) * 8, (1, 2, 3, 4, 0, 0)))
 
+    def test_a_source_that_does_not_stand_at_its_front(self):
+        entries = ((2, 4, ("all", (("loose", "b", 0), ("off", "a")))),)
+        engine = Engine(project(a=("clock", 0, (7, 0, 99), ()), b=mix(("a", 2))), ("b",), entries)
+        work(engine, "a", 2)
+        # At 4 and 5 b reads a at 2 and 3, where a is not worked out and does not stand.
+        self.same((engine.ready("b", 6), engine.ready("b", 7)), (None, (6, 0)))
+        work(engine, "b", 6)
+        self.same(engine.worths("b", 0, 6), (0,) * 6)
+
+    def test_states_behind_samples_at_which_a_name_does_not_stand(self):
+        entries = ((2, 5, ("off", "a")),)
+        engine = Engine(project(a=("clock", 0, (0, 0, 99), ())), ("a",), entries)
+        work(engine, "a", 9)
+        self.same(engine.change(8, ("knobs", "a", (0, 0, 50))), (("a", 8),))
+        work(engine, "a", 2)
+        self.same(engine.worths("a", 0, 10), (0, 1, 0, 0, 0, 0, 1, 2, 3, 4))
+
+    def test_a_name_by_its_front_alone(self):
+        engine = Engine(DUO, ("b",), ((9, None, ("put", "c", "level", (5,), ())),))
+        work(engine, "c", 3)
+        self.same(engine.undo(0), ())
+        self.same((engine.names(), engine.ready("c", 2), work(engine, "c", 2)), (("a", "b", "c"), None, True))
+        # By a slip that is not struck alone, too; without both it is none.
+        other = Engine(DUO, ("b",), ((9, None, ("put", "c", "level", (5,), ())),))
+        other.begin(4, "c", 3)
+        other.undo(0)
+        self.same((other.names(), other.ready("c", 2), other.drop(4), other.names()), (("a", "b", "c"), None, None, ("a", "b")))
+        self.raises(NoName, ("c",), other.ready, "c", 2)
+
     def test_hands_and_struck_slips(self):
         engine = Engine(DUO, ("b",))
         self.raises(NoSlip, (0,), engine.end, 0)

@@ -96,6 +96,19 @@ class Loading(Case):
         other = loaded(engine.save())
         self.same((other.end(0), other.front("b"), other.worths("b", 0, 4)), (True, 4, (0, 0, 0, 0)))
 
+    def test_slips_of_names_that_never_stand(self):
+        engine = Engine(DUO, ("z",))
+        work(engine, "z", 2)
+        engine.begin(3, "z", 3)
+        other = loaded(engine.save())
+        for one in (engine, other):
+            one.end(3)
+            one.change(6, ("put", "z", "clock", (0, 0, 99), ()))
+            work(one, "z", 5)
+            self.same(one.change(9, ("knobs", "z", (0, 0, 50))), (("z", 9),))
+            work(one, "z", 2)
+            self.same(one.worths("z", 0, 11), (0, 0, 0, 0, 0, 0, 0, 1, 2, 3, 4))
+
     def test_states_go_on(self):
         one = project(a=("noise", 0, (3, 999), ()), b=("mean", 0, (5,), (("a", 0),)))
         engine, other = Engine(one, ("b",)), Engine(one, ("b",))
@@ -173,7 +186,8 @@ class Refusing(Case):
         new = Engine(DUO, ("b",))
         self.taken(UNDONE, (("off", "z"),) * 64, engine=new)
         saved = list(value_of(new.save()))
-        saved[ENTRIES], saved[UNDONE] = ((3, None, ("off", "z")), (3, 4, ("off", "z"))), (("off", "z"),) * 63
+        ended = (3, 4, ("off", "z"))
+        saved[ENTRIES], saved[UNDONE] = (ended, (3, None, ("off", "z")), ended, ended), (("off", "z"),) * 63
         self.same(loaded(text_of(tuple(saved))).undone(), (("off", "z"),) * 63)
         saved[UNDONE] += (("off", "z"),)
         self.refused(saved)
@@ -194,6 +208,7 @@ class Refusing(Case):
         self.same(worked().fronts(), fronts)
         self.bent(HEARD, None, -1, True, False, "0", (0,), 4, 10 ** 59)
         self.taken(HEARD, 0, 1, 3)
+        self.bent(HEARD, 1, engine=Engine(DUO, ("b",)))
         self.bent(FRONTS, None, fronts[::-1], fronts[:1] + fronts, (("a", 6), ("b", 3), ("f", 3), ("x", 0)), (("a", 6), ("b", True), ("f", 3), ("x", 4)),
                   (("a", 6), ("b", 3), ("f", 3), ("x", LAST + 1)), (("a", 6), ("b", 3), ("f", 3), ("X", 4)), (("a", 6), ("b", 3), ("f", 3), ("x", 4, 0)),
                   fronts[1:], fronts[2:], fronts[:3], fronts[:3] + (("x", 1),))

@@ -128,6 +128,13 @@ class Needing(Case):
         self.same(needs_of(FED, entries, (("g", 5),), "g", 7), (("g", 7),))
         self.same(needs_of(FED, entries, (("g", 5),), "g", 8), (("f", 6), ("g", 8)))
 
+    def test_needs_up_to_a_seam(self):
+        # b is needed up to 4 alone; only from 5 on it reads a.
+        one = project(a=LEVEL, b=mix(None), c=mix(("b", 1)))
+        entries = ((5, None, ("wire", "b", 0, "a", 0)),)
+        self.same(needs_of(one, entries, (), "c", 6), (("b", 5), ("c", 6)))
+        self.same(needs_of(one, entries, (), "c", 7), (("a", 6), ("b", 6), ("c", 7)))
+
     def test_needs_of_needs(self):
         one = project(a=mix(("b", 3)), b=mix(("c", 1), ("b", 2)), c=mix(("a", 1), ("d", 2047)), d=LEVEL)
         self.same(needs_of(one, (), (), "a", 9), (("a", 9), ("b", 6), ("c", 5)))

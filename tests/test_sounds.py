@@ -192,6 +192,7 @@ class Resampling(Case):
         self.same(resampled((TOP, TOP), 1, 1, (65536, 65536)), (TOP, TOP))
         self.same(resampled((1, 2), 1, 1, (0,) * 63 + (4096,)), (0, 0))
         self.same(resampled((3, -3), 1, 1, (2048,)), (2, -1))
+        self.same(resampled((1, -1, 0), 1, 1, (2047,)) + resampled((1, -1, 0), 1, 1, (2048,)), (0, 0, 0, 1, 0, 0))
 
     def test_drawn(self):
         source = drawing(101)

@@ -221,6 +221,13 @@ class Rounds(Refusals):
         worked(turned, LAST, (0,), (1,), 1)
         self.same(buffer_now(turned), 3)
 
+    def test_what_stands_from_last_on_is_no_matter(self):
+        one = project(a=mix(("a", 3)))
+        engine = Engine(one, ("a",), ((0, LAST, ("wire", "a", 0, "a", 2000)),))
+        for cut in range(2000, LAST + 1, 2000):
+            self.same((buffer_now(engine), go_rounds(engine, (cut,))), (2000, 1))
+        self.same((engine.front("a"), buffer_now(engine)), (LAST, 2000))
+
     def test_seams(self):
         entries = ((3, None, ("anew", "a")), (5, 9, ("off", "z")), (7, 7, ("off", "z")), (2, LAST, ("anew", "b")))
         engine = Engine(APART, ("b",), entries)
