@@ -189,7 +189,7 @@ class Engine:
     def names(self):
         """The names that stand at some sample, are heard, worked out or being worked out, ascending."""
         worked = [name for name, _ in self._tracks.fronts()]
-        return tuple(sorted(set(self._standing + list(self._ears) + worked + list(self._open_slips()))))
+        return tuple(sorted(set(self._standing + list(self._ears) + worked + self._open_slips())))
 
     def front(self, name):
         """How many samples of the name are worked out."""
